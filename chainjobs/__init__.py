@@ -1,0 +1,1 @@
+"""Scheduling chains of jobs with minimum weighted completion time."""

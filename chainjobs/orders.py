@@ -1,0 +1,145 @@
+"""Orders of jobs that lie in chains, and what these orders cost.
+
+Inside this module a job is a tuple (duration, weight), and `chain_jobs`
+is a list that holds for each chain the list of its jobs.
+"""
+
+MAX_CHAINS = 4
+MAX_JOBS = 7
+MAX_DURATION = 99
+MAX_WEIGHT = 99
+
+OUTSIDE_LIMITS = -22
+
+
+def total_cost(chains, order):
+    """Answer [cost] of the order, or [-22]."""
+    chain_jobs = read_chains(chains)
+    if chain_jobs is None or not is_order(chain_jobs, order):
+        return [OUTSIDE_LIMITS]
+    return [cost_of_order(chain_jobs, order)]
+
+
+def optimal_order(chains):
+    """Answer [cost, chain, chain, ..] of the optimal order, or [-22]."""
+    chain_jobs = read_chains(chains)
+    if chain_jobs is None:
+        return [OUTSIDE_LIMITS]
+    order = find_optimal_order(chain_jobs)
+    return [cost_of_order(chain_jobs, order)] + order
+
+
+def read_chains(numbers):
+    """Give the jobs of each chain, or None if the list is outside its limits."""
+    chain_jobs = []
+    place = 0
+    while place < len(numbers):
+        end = place + 1 + 2 * numbers[place]
+        if end > len(numbers):
+            return None
+        chain_jobs.append(read_jobs(numbers[place + 1:end]))
+        place = end
+    if not are_within_limits(chain_jobs):
+        return None
+    return chain_jobs
+
+
+def read_jobs(numbers):
+    """Give the jobs that stand one behind another in the list."""
+    return [(numbers[k], numbers[k + 1]) for k in range(0, len(numbers), 2)]
+
+
+def are_within_limits(chain_jobs):
+    """Tell whether there are not too many chains and jobs, each job with fit numbers."""
+    if len(chain_jobs) > MAX_CHAINS or number_of_jobs(chain_jobs) > MAX_JOBS:
+        return False
+    for jobs in chain_jobs:
+        for duration, weight in jobs:
+            if not 1 <= duration <= MAX_DURATION or not 0 <= weight <= MAX_WEIGHT:
+                return False
+    return True
+
+
+def number_of_jobs(chain_jobs):
+    """Give the number of jobs of all chains together."""
+    return sum([len(jobs) for jobs in chain_jobs])
+
+
+def is_order(chain_jobs, order):
+    """Tell whether the order has each chain as often as it has jobs, and nothing else."""
+    # With the right length and the right count of each chain there is no room
+    # for the number of a chain that does not exist.
+    if len(order) != number_of_jobs(chain_jobs):
+        return False
+    for chain, jobs in enumerate(chain_jobs):
+        if order.count(chain) != len(jobs):
+            return False
+    return True
+
+
+def jobs_in_order(chain_jobs, order):
+    """Give all jobs in the order in which they are done."""
+    done = [0] * len(chain_jobs)
+    jobs = []
+    for chain in order:
+        jobs.append(chain_jobs[chain][done[chain]])
+        done[chain] += 1
+    return jobs
+
+
+def cost_of_order(chain_jobs, order):
+    """Give the sum of weight times completion time over all jobs."""
+    cost = 0
+    completion = 0
+    for duration, weight in jobs_in_order(chain_jobs, order):
+        completion += duration
+        cost += weight * completion
+    return cost
+
+
+def find_optimal_order(chain_jobs):
+    """Give the order that always does the densest of the densest prefixes next."""
+    job_count = number_of_jobs(chain_jobs)
+    remaining = list(chain_jobs)
+    order = []
+    while len(order) < job_count:
+        chain = chain_to_do_next(remaining)
+        length = find_densest_prefix(remaining[chain])[0]
+        order.extend([chain] * length)
+        remaining[chain] = remaining[chain][length:]
+    return order
+
+
+def chain_to_do_next(remaining):
+    """Give the first chain whose densest prefix is the densest; one has a job left."""
+    best_chain = None
+    best_prefix = None
+    for chain, jobs in enumerate(remaining):
+        if len(jobs) > 0:
+            prefix = find_densest_prefix(jobs)
+            # A tie changes nothing, so that the first chain stays the best.
+            if best_prefix is None or compare_density(prefix, best_prefix) > 0:
+                best_chain = chain
+                best_prefix = prefix
+    return best_chain
+
+
+def find_densest_prefix(jobs):
+    """Give (length, weight, duration) of the densest prefix; there is at least one job."""
+    best_prefix = None
+    total_weight = 0
+    total_duration = 0
+    for length, job in enumerate(jobs, start=1):
+        total_duration += job[0]
+        total_weight += job[1]
+        prefix = (length, total_weight, total_duration)
+        # A tie counts for the later prefix, as the longest is wanted.
+        if best_prefix is None or compare_density(prefix, best_prefix) >= 0:
+            best_prefix = prefix
+    return best_prefix
+
+
+def compare_density(prefix, other):
+    """Give a number above, at or below 0 if the prefix is denser, as dense or less dense."""
+    # Cross products instead of quotients: whole numbers make every tie exact.
+    return prefix[1] * other[2] - other[1] * prefix[2]
