@@ -9,6 +9,8 @@ MAX_JOBS = 7
 MAX_DURATION = 99
 MAX_WEIGHT = 99
 
+NO_SUCH_CHAIN = -2
+CHAIN_WITHOUT_JOBS = -6
 OUTSIDE_LIMITS = -22
 
 
@@ -22,10 +24,33 @@ def total_cost(chains, order):
 
 def optimal_order(chains):
     """Answer [cost, chain, chain, ..] of the optimal order, or [-22]."""
+    return cost_and_order(chains, MAX_JOBS)
+
+
+def greedy_order(chains):
+    """Answer [cost, chain, chain, ..] of the greedy order, or [-22]."""
+    # The ratio of a job is the density of the prefix that is this job alone.
+    return cost_and_order(chains, 1)
+
+
+def densest_prefix(chain, chains):
+    """Answer [length, weight, duration] of the chain's densest prefix, or [-22], [-2] or [-6]."""
     chain_jobs = read_chains(chains)
     if chain_jobs is None:
         return [OUTSIDE_LIMITS]
-    order = find_optimal_order(chain_jobs)
+    if chain >= len(chain_jobs):
+        return [NO_SUCH_CHAIN]
+    if len(chain_jobs[chain]) == 0:
+        return [CHAIN_WITHOUT_JOBS]
+    return list(find_densest_prefix(chain_jobs[chain]))
+
+
+def cost_and_order(chains, longest):
+    """Answer the order of find_order with its cost before it, or [-22]."""
+    chain_jobs = read_chains(chains)
+    if chain_jobs is None:
+        return [OUTSIDE_LIMITS]
+    order = find_order(chain_jobs, longest)
     return [cost_of_order(chain_jobs, order)] + order
 
 
@@ -97,35 +122,33 @@ def cost_of_order(chain_jobs, order):
     return cost
 
 
-def find_optimal_order(chain_jobs):
-    """Give the order that always does the densest of the densest prefixes next."""
+def find_order(chain_jobs, longest):
+    """Give the order that always does the densest prefix of at most `longest` jobs next."""
     job_count = number_of_jobs(chain_jobs)
     remaining = list(chain_jobs)
     order = []
     while len(order) < job_count:
-        chain = chain_to_do_next(remaining)
-        length = find_densest_prefix(remaining[chain])[0]
+        prefixes = [find_densest_prefix(jobs[:longest]) for jobs in remaining]
+        chain = find_densest_chain(prefixes)
+        length = prefixes[chain][0]
         order.extend([chain] * length)
         remaining[chain] = remaining[chain][length:]
     return order
 
 
-def chain_to_do_next(remaining):
-    """Give the first chain whose densest prefix is the densest; one has a job left."""
+def find_densest_chain(prefixes):
+    """Give the first chain with the densest prefix; a chain without jobs has None there."""
     best_chain = None
-    best_prefix = None
-    for chain, jobs in enumerate(remaining):
-        if len(jobs) > 0:
-            prefix = find_densest_prefix(jobs)
+    for chain, prefix in enumerate(prefixes):
+        if prefix is not None:
             # A tie changes nothing, so that the first chain stays the best.
-            if best_prefix is None or compare_density(prefix, best_prefix) > 0:
+            if best_chain is None or compare_density(prefix, prefixes[best_chain]) > 0:
                 best_chain = chain
-                best_prefix = prefix
     return best_chain
 
 
 def find_densest_prefix(jobs):
-    """Give (length, weight, duration) of the densest prefix; there is at least one job."""
+    """Give (length, weight, duration) of the densest prefix, or None if there are no jobs."""
     best_prefix = None
     total_weight = 0
     total_duration = 0

@@ -111,6 +111,26 @@ def optimal_by_definition(chain_jobs):
     return order
 
 
+def greedy_by_definition(chain_jobs):
+    """Give the greedy order as the section Terms tells it."""
+    rest = [list(jobs) for jobs in chain_jobs]
+    order = []
+    while any(rest):
+        ratios = [Fraction(jobs[0][1], jobs[0][0]) if jobs else -1 for jobs in rest]
+        chain = ratios.index(max(ratios))
+        order.append(chain)
+        rest[chain].pop(0)
+    return order
+
+
+def single_jobs():
+    """Go through up to 4 chains of at most one job each."""
+    jobs = [[]] + [[job] for job in ((1, 0), (1, 1), (1, 99), (2, 2), (3, 2), (99, 0), (99, 98))]
+    for count in range(5):
+        for chains in product(jobs, repeat=count):
+            yield list(chains)
+
+
 def small_chains():
     """Go through all chains of at most 3 jobs with a few durations and weights."""
     shapes = [shape for count in range(4) for shape in product(range(4), repeat=count)
