@@ -45,6 +45,22 @@ def densest_prefix(chain, chains):
     return list(find_densest_prefix(chain_jobs[chain]))
 
 
+def completion_times(chains, order):
+    """Answer [job_count, time, time, ..] of the order, or [-22]."""
+    chain_jobs = read_chains(chains)
+    if chain_jobs is None or not is_order(chain_jobs, order):
+        return [OUTSIDE_LIMITS]
+    return [len(order)] + times_of_jobs(jobs_in_order(chain_jobs, order))
+
+
+def count_orders(chains):
+    """Answer [count] of all orders of the jobs, or [-22]."""
+    chain_jobs = read_chains(chains)
+    if chain_jobs is None:
+        return [OUTSIDE_LIMITS]
+    return [number_of_orders(chain_jobs)]
+
+
 def cost_and_order(chains, longest):
     """Answer the order of find_order with its cost before it, or [-22]."""
     chain_jobs = read_chains(chains)
@@ -90,6 +106,19 @@ def number_of_jobs(chain_jobs):
     return sum([len(jobs) for jobs in chain_jobs])
 
 
+def number_of_orders(chain_jobs):
+    """Give the number of ways to merge the chains into one order."""
+    count = 1
+    job_count = 0
+    for jobs in chain_jobs:
+        for length in range(1, len(jobs) + 1):
+            job_count += 1
+            # No remainder is lost: the first `length` jobs of a chain multiply the count
+            # by the number of ways to choose their places among the job_count so far.
+            count = count * job_count // length
+    return count
+
+
 def is_order(chain_jobs, order):
     """Tell whether the order has each chain as often as it has jobs, and nothing else."""
     # With the right length and the right count of each chain there is no room
@@ -112,13 +141,22 @@ def jobs_in_order(chain_jobs, order):
     return jobs
 
 
+def times_of_jobs(jobs):
+    """Give the completion time of each job, if they are done one behind another."""
+    times = []
+    completion = 0
+    for job in jobs:
+        completion += job[0]
+        times.append(completion)
+    return times
+
+
 def cost_of_order(chain_jobs, order):
     """Give the sum of weight times completion time over all jobs."""
+    jobs = jobs_in_order(chain_jobs, order)
     cost = 0
-    completion = 0
-    for duration, weight in jobs_in_order(chain_jobs, order):
-        completion += duration
-        cost += weight * completion
+    for job, completion in zip(jobs, times_of_jobs(jobs)):
+        cost += job[1] * completion
     return cost
 
 

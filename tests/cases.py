@@ -4,7 +4,7 @@ Here chains are written job by job: [[(duration, weight), ..], ..].
 """
 
 from fractions import Fraction
-from itertools import product
+from itertools import cycle, product
 
 # Chain 0 has the jobs (1, 0) and (1, 9), chain 1 has the job (2, 4).
 EXAMPLE = [2, 1, 0, 1, 9, 1, 2, 4]
@@ -45,6 +45,28 @@ OUTSIDE_LIMITS = {
     "the largest number everywhere": [LARGEST] * 25,
 }
 
+# For each way in which a list is no order of the jobs: the chains, then such lists.
+NO_ORDERS = {
+    "too short": [
+        (EXAMPLE, [0, 1]), (EXAMPLE, [0, 0]), (EXAMPLE, []),
+        ([7] + [1, 1] * 7, [0] * 6), ([1, 1, 1], []),
+    ],
+    "too long": [
+        (EXAMPLE, [0, 0, 1, 1]), (EXAMPLE, [0, 0, 0, 1]), (EXAMPLE, [0, 0, 1] * 3),
+        ([], [0]), ([], [0] * 9), ([0], [0]), ([7] + [1, 1] * 7, [0] * 8),
+    ],
+    "with a chain that does not exist": [
+        (EXAMPLE, [0, 0, 2]), (EXAMPLE, [2, 0, 0]), (EXAMPLE, [0, 0, 1, 2]), (EXAMPLE, [0, 0, 4]),
+        (EXAMPLE, [0, 0, LARGEST]), (EXAMPLE, [0, 0, 1, LARGEST]), (EXAMPLE, [LARGEST] * 9),
+        (EXAMPLE, [0, 0, 256]), (EXAMPLE, [0, 0, 257]), (EXAMPLE, [0, 2147483648, 1]),
+        ([1, 1, 1], [LARGEST]), ([], [LARGEST]), ([0], [LARGEST]), ([1, 1, 1] * 4, [0, 1, 2, 4]),
+    ],
+    "with a chain too often or too seldom": [
+        (EXAMPLE, [0, 1, 1]), (EXAMPLE, [0, 0, 0]), (EXAMPLE, [1, 1, 1]),
+        ([0, 1, 1, 1], [0]), ([1, 1, 1, 0, 1, 1, 1], [0, 1]), ([1, 1, 1] * 4, [0, 1, 2, 2]),
+    ],
+}
+
 
 class Untouchable(list):
     """A list that may be read, but fails as soon as it is changed."""
@@ -81,12 +103,22 @@ def all_orders(lengths):
                 yield [chain] + order
 
 
-def cost_by_definition(chain_jobs, order):
-    """Give the cost: each job's weight times all durations up to its own."""
+def done_by_definition(chain_jobs, order):
+    """Give the jobs as they are done: each number of a chain stands for its next job."""
     walks = [iter(jobs) for jobs in chain_jobs]
-    done = [next(walks[chain]) for chain in order]
-    return sum(weight * sum(duration for duration, _ in done[:place + 1])
-               for place, (_, weight) in enumerate(done))
+    return [next(walks[chain]) for chain in order]
+
+
+def times_by_definition(chain_jobs, order):
+    """Give the completion times: for each job all durations up to its own."""
+    durations = [duration for duration, _ in done_by_definition(chain_jobs, order)]
+    return [sum(durations[:place + 1]) for place in range(len(durations))]
+
+
+def cost_by_definition(chain_jobs, order):
+    """Give the cost: the sum of each job's weight times its completion time."""
+    return sum(weight * time for (_, weight), time in
+               zip(done_by_definition(chain_jobs, order), times_by_definition(chain_jobs, order)))
 
 
 def densest_length_by_definition(jobs):
@@ -142,18 +174,36 @@ def small_chains():
             yield [[next(walk) for _ in range(length)] for length in shape]
 
 
+def mixed_jobs(top):
+    """Go on through jobs of durations from 1 to top and weights from 0 to top."""
+    state = 1
+    while True:
+        state = state * 1103515245 % 2147483648 + 12345
+        yield (state // 65536 % top + 1, state // 8192 % (top + 1))
+
+
+def all_shapes():
+    """Go through the numbers of jobs of all chains within the limits."""
+    for count in range(5):
+        for shape in product(range(8), repeat=count):
+            if sum(shape) <= 7:
+                yield list(shape)
+
+
+def every_kind():
+    """Go through chains of every shape, with least, greatest, tied and mixed jobs."""
+    walks = [cycle([(1, 0)]), cycle([(1, 99)]), cycle([(99, 0)]), cycle([(99, 99)]),
+             cycle([(1, 1), (2, 2), (1, 0), (1, 2), (3, 3)]), mixed_jobs(3), mixed_jobs(99)]
+    for shape in all_shapes():
+        for walk in walks:
+            yield [[next(walk) for _ in range(length)] for length in shape]
+
+
 def large_chains():
     """Go through chains of 6 or 7 jobs, with numbers small enough to tie and large ones."""
     shapes = [[7], [6, 1], [3, 4], [2, 5], [3, 0, 4], [2, 2, 3], [1, 5, 1], [2, 1, 2, 2],
               [1, 1, 1, 4], [0, 3, 0, 3], [4, 1, 1, 1], [1, 3, 2, 1]]
-    state = 1
+    walks = {top: mixed_jobs(top) for top in (2, 3, 99)}
     for shape in shapes:
         for top in (2, 3, 99, 99):
-            chains = []
-            for length in shape:
-                jobs = []
-                for _ in range(length):
-                    state = state * 1103515245 % 2147483648 + 12345
-                    jobs.append((state // 65536 % top + 1, state // 8192 % (top + 1)))
-                chains.append(jobs)
-            yield chains
+            yield [[next(walks[top]) for _ in range(length)] for length in shape]

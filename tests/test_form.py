@@ -133,7 +133,8 @@ class Form(unittest.TestCase):
             self.assertNotRegex(path.read_text("ascii"), WORDS_NOWHERE, path)
 
     def test_interface_functions_are_written_in_their_file_alone(self):
-        for name in ("total_cost", "optimal_order", "greedy_order", "densest_prefix"):
+        for name in ("total_cost", "optimal_order", "greedy_order", "densest_prefix",
+                     "completion_times", "count_orders"):
             places = [path.name for path, tree in package_trees() for node in tree.body
                       if isinstance(node, ast.FunctionDef) and node.name == name]
             self.assertEqual(places, ["orders.py"], name)
