@@ -61,6 +61,17 @@ def count_orders(chains):
     return [number_of_orders(chain_jobs)]
 
 
+def cost_after_swap(first, second, chains):
+    """Answer [cost] of the optimal order with the two chains exchanged, or [-22] or [-2]."""
+    chain_jobs = read_chains(chains)
+    if chain_jobs is None:
+        return [OUTSIDE_LIMITS]
+    if first >= len(chain_jobs) or second >= len(chain_jobs):
+        return [NO_SUCH_CHAIN]
+    swapped = swap_chains(chain_jobs, first, second)
+    return [cost_of_order(swapped, find_order(swapped, MAX_JOBS))]
+
+
 def cost_and_order(chains, longest):
     """Answer the order of find_order with its cost before it, or [-22]."""
     chain_jobs = read_chains(chains)
@@ -117,6 +128,14 @@ def number_of_orders(chain_jobs):
             # by the number of ways to choose their places among the job_count so far.
             count = count * job_count // length
     return count
+
+
+def swap_chains(chain_jobs, first, second):
+    """Give the chains as they are if the two have each other's number."""
+    swapped = list(chain_jobs)
+    swapped[first] = chain_jobs[second]
+    swapped[second] = chain_jobs[first]
+    return swapped
 
 
 def is_order(chain_jobs, order):

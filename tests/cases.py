@@ -11,6 +11,17 @@ EXAMPLE = [2, 1, 0, 1, 9, 1, 2, 4]
 
 LARGEST = 4294967295
 
+# The functions of chainjobs.orders, each with the names of its arguments.
+INTERFACE = {
+    "total_cost": ["chains", "order"],
+    "optimal_order": ["chains"],
+    "greedy_order": ["chains"],
+    "densest_prefix": ["chain", "chains"],
+    "completion_times": ["chains", "order"],
+    "count_orders": ["chains"],
+    "cost_after_swap": ["first", "second", "chains"],
+}
+
 OUTSIDE_LIMITS = {
     "5 chains": [1, 1, 1] * 5,
     "5 chains without jobs": [0] * 5,

@@ -6,6 +6,8 @@ import pathlib
 import re
 import unittest
 
+from tests.cases import INTERFACE
+
 PACKAGE = pathlib.Path(__file__).resolve().parent.parent / "chainjobs"
 
 BUILT_IN = set("""len range enumerate zip min max sum abs sorted reversed int str bool list tuple
@@ -133,8 +135,7 @@ class Form(unittest.TestCase):
             self.assertNotRegex(path.read_text("ascii"), WORDS_NOWHERE, path)
 
     def test_interface_functions_are_written_in_their_file_alone(self):
-        for name in ("total_cost", "optimal_order", "greedy_order", "densest_prefix",
-                     "completion_times", "count_orders"):
+        for name in INTERFACE:
             places = [path.name for path, tree in package_trees() for node in tree.body
                       if isinstance(node, ast.FunctionDef) and node.name == name]
             self.assertEqual(places, ["orders.py"], name)
